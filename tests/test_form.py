@@ -12,7 +12,7 @@ NODES = """Module Expr Constant ImportFrom alias FunctionDef ClassDef arguments 
 Return Break Continue Pass Raise Call Name Load Store Attribute Subscript Slice List Tuple Dict ListComp comprehension
 BinOp UnaryOp BoolOp Compare IfExp JoinedStr FormattedValue Add Sub Mult FloorDiv Mod USub Not And Or
 Eq NotEq Lt LtE Gt GtE Is IsNot In NotIn keyword Lambda""".split()
-BUILT_IN = "len range enumerate zip min max sum abs sorted list tuple dict any all ValueError".split()
+BUILT_IN = "len range enumerate zip min max sum abs sorted list tuple dict set any all".split()
 WORDS = re.compile(r"\b(type|typing|enum|Enum|Generic|Protocol|ABC|namedtuple|register|mro|elements|open|input)\b")
 
 
@@ -47,12 +47,24 @@ class Form(unittest.TestCase):
                 if isinstance(node, ast.Assign):
                     self.assertEqual(len(node.targets), 1, where)
 
+    def test_a_set_is_only_counted_or_put_in_order(self):
+        for path in FILES:
+            nodes = list(ast.walk(ast.parse(path.read_text(encoding="utf-8"))))
+            named = [node for node in nodes if isinstance(node, ast.Name) and node.id == "set"]
+            within = [node.args[0].func for node in nodes if is_call_of(node, ("len", "sorted"))
+                      and node.args and is_call_of(node.args[0], ("set",))]
+            self.assertEqual([node.lineno for node in named if node not in within], [], path)
+
     def test_no_name_of_pythons_own_is_bound(self):
         own = dir(__builtins__) if not isinstance(__builtins__, dict) else list(__builtins__)
         for path in FILES:
             for name in names_bound(ast.parse(path.read_text(encoding="utf-8"))):
                 self.assertNotIn(name, own, path)
                 self.assertTrue(name == "__init__" or re.fullmatch(r"[A-Za-z][A-Za-z0-9_]*", name), (path, name))
+
+
+def is_call_of(node, names):
+    return isinstance(node, ast.Call) and isinstance(node.func, ast.Name) and node.func.id in names
 
 
 def names_bound(tree):

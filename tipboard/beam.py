@@ -8,6 +8,9 @@ UP = 2
 TIP = 3
 LEVEL = 4
 CAN = 5
+NEAREST = 6
+CHANGE = 7
+DO = 8
 ONLY = 9
 
 # How many whole numbers each call has, by the call's number, ahead of its row if it has one.
@@ -15,11 +18,6 @@ NUMBERS = (1, 2, 1, 0, 0, 2, 0, 0, 0, 0, 0)
 
 NO_SUCH_BOARD = -1
 NO_SEESAW = -9
-
-
-# Calls that aren't answered yet are read all the same: without a seesaw they too answer -9.
-class UnknownCall(ValueError):
-    pass
 
 
 def end_of_call(calls, start):
@@ -52,7 +50,17 @@ def ask(seesaw, call):
         return seesaw.level()
     if number == CAN:
         return seesaw.can(call[1], call[2])
-    raise UnknownCall(f"call {number} is not answered")
+    if number == NEAREST:
+        return seesaw.nearest()
+    if number == CHANGE:
+        return seesaw.change()
+    if number == DO:
+        return seesaw.do()
+    if number == ONLY:
+        # The row's count stands ahead of the children.
+        return seesaw.only(call[2:])
+    # Of the calls only look is left.
+    return seesaw.look()
 
 
 class Line:

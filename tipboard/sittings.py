@@ -22,3 +22,16 @@ def all_sittings(arms, weights):
 
 def level_sittings(arms, weights):
     return [seats for seats, tilt in all_sittings(arms, weights) if tilt == 0]
+
+
+def how_many_change(now, then):
+    return len([seat for seat, other in zip(now, then) if seat != other])
+
+
+def fewest_changes(now, ways):
+    best = None
+    for way in ways:
+        # Only what is better takes its place: of as good ways the first is kept.
+        if best is None or how_many_change(now, way) < how_many_change(now, best):
+            best = way
+    return best
